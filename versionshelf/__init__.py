@@ -1,0 +1,1 @@
+"""Versionshelf: cells in many versions, and which of them can go."""
